@@ -285,6 +285,10 @@ func TestMany(t *testing.T) {
 	if len(l) != 0 || e != api.OK {
 		t.Error(len(l), e)
 	}
+	l, e = denote.All(streams(), parsed(t, "q = A a+ ; B b WITHIN 1000000"), entries("A0 B0 "+strings.Join(text, " ")))
+	if shown(l) != "0;1@0" || e != api.OK {
+		t.Error(len(l), e)
+	}
 	l, e = denote.All(streams(), parsed(t, "q = STRICT A a+[#a > 1 || a.x == 1] ; B b WITHIN 1000000"), entries("A0=1 "+strings.Join(text, " ")+" B999"))
 	if len(l) != 1 || len(l[0].Parts[0]) != 3001 || e != api.OK {
 		t.Error(len(l), e)

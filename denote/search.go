@@ -21,14 +21,17 @@ type search struct {
 	least []int64 // of each place the least Time from there on
 	tell  func(Match)
 
-	first, limit int64 // the least and the greatest Time that may be taken
-	final        int   // the last place that the last step may take
-	lists        [][]int
+	first, limit int64   // the least and the greatest Time that may be taken
+	final        int     // the last place that the last step may take
+	lists        [][]int // of each step
 	binds        []reckon.Bind
 }
 
 func newSearch(p *plan.Plan, group []spot, tell func(Match)) *search {
-	s := &search{Plan: p, group: group, tell: tell, least: make([]int64, len(group))}
+	s := &search{Plan: p, group: group, tell: tell, least: make([]int64, len(group)), lists: make([][]int, len(p.Steps))}
+	for _, step := range p.Steps {
+		s.binds = append(s.binds, step.Bind(nil))
+	}
 	for i := len(group) - 1; i >= 0; i-- {
 		s.least[i] = group[i].E.Time
 		if i+1 < len(group) {
@@ -71,11 +74,6 @@ func (s *search) with(k, j int, goOn func()) {
 	if !step.Takes(x.Stream) || !s.inWindow(j) {
 		return
 	}
-	begins := k == len(s.binds)
-	if begins {
-		s.lists = append(s.lists, nil)
-		s.binds = append(s.binds, step.Bind(nil))
-	}
 	list, events := s.lists[k], s.binds[k].Events
 	s.lists[k] = append(list, x.index)
 	s.binds[k].Events = append(events, s.View(step.Part, x.Stream, x.E))
@@ -83,9 +81,6 @@ func (s *search) with(k, j int, goOn func()) {
 		goOn()
 	}
 	s.lists[k], s.binds[k].Events = list, events
-	if begins {
-		s.lists, s.binds = s.lists[:k], s.binds[:k]
-	}
 }
 
 // grow tries all ways to go on behind place at, which step k took last.
@@ -107,18 +102,19 @@ func (s *search) grow(k, at int) {
 		if s.Strict {
 			return
 		}
-		goes = goes && !s.guarded(s.Steps[k+1].Nots, j)
+		goes = goes && !s.guarded(s.Steps[k+1].Nots, k, j)
 	}
 }
 
-func (s *search) guarded(nots []plan.Part, j int) bool {
-	return s.Guarded(nots, s.binds, s.group[j].Stream, s.group[j].E)
+// guarded asks whether one of nots, which stand behind step k, finds the entry at place j.
+func (s *search) guarded(nots []plan.Part, k, j int) bool {
+	return s.Guarded(nots, s.binds[:k+1], s.group[j].Stream, s.group[j].E)
 }
 
 // finish tells the match that all steps have made, place at being the last one, if nothing behind it forbids it.
 func (s *search) finish(at int) {
 	for j := at + 1; s.Waits() && s.inReach(j); j++ {
-		if s.group[j].E.Time <= s.limit && s.guarded(s.Tail, j) {
+		if s.group[j].E.Time <= s.limit && s.guarded(s.Tail, len(s.Steps)-1, j) {
 			return
 		}
 	}

@@ -166,6 +166,12 @@ func TestRegister(t *testing.T) {
 	if _, _, e := g.Register([]string{"e = d x WITHIN 1", "f = A x WITHIN 1", "g = B x WITHIN 1", "h = C x WITHIN 1"}, 1); e != api.OK || len(g.Names()) != 8 || g.Names()[0] != "a" {
 		t.Error(e, g.Names())
 	}
+	if s, _ := made(t, 1, 1, 1).Status("a"); s != (engine.Status{}) {
+		t.Error(s)
+	}
+	if _, _, e := made(t, 1, 1, 1).Register([]string{"i = A x WITHIN 1"}, 1000); e != api.OK {
+		t.Error(e)
+	}
 	if _, _, e := g.Register([]string{"i = A x WITHIN 1"}, 1); e != api.ErrFull {
 		t.Error(e)
 	}
@@ -183,6 +189,10 @@ func TestLimit(t *testing.T) {
 		t.Error(e)
 	}
 	if which, at, e := g.Register([]string{"p = S0 a WITHIN 1", "r = S0 | S1 | S2 | S3 a ; S4 | S5 | S6 | S7 b ; q c WITHIN 1"}, 1); which != 1 || at != 0 || e != api.ErrLimit {
+		t.Error(which, at, e)
+	}
+	// Of nine there are eight: the ninth is no name.
+	if which, at, e := g.Register([]string{"r = S0 | S1 | S2 | S3 a ; S4 | S5 | S6 | S7 b ; Z c WITHIN 1"}, 1); which != 0 || at != 0 || e != api.ErrName {
 		t.Error(which, at, e)
 	}
 }

@@ -65,6 +65,37 @@ func TestWords(t *testing.T) {
 	}
 }
 
+// TestBytes (P6.2): of each byte what begins with it.
+func TestBytes(t *testing.T) {
+	for b := range 256 {
+		s := string([]byte{byte(b)})
+		kind := 0
+		switch {
+		case strings.Contains("abcdefghijklmnopqrstuvwxyzABCDEFGHIJKLMNOPQRSTUVWXYZ_", s):
+			kind = Word
+		case strings.Contains("0123456789", s):
+			kind = Number
+		case slices.Contains(Signs(), s):
+			kind = Sign
+		case strings.Contains(" \t\r\n", s):
+			kind = -1
+		}
+		l, at, e := All(s)
+		switch {
+		case kind == 0 && (e != api.ErrLex || at != 0 || len(l) != 0):
+			t.Errorf("%q %v %v %v", s, l, at, e)
+		case kind == -1 && (e != api.OK || at != 1 || len(l) != 0):
+			t.Errorf("%q %v %v %v", s, l, at, e)
+		case kind > 0 && (e != api.OK || at != 1 || len(l) != 1 || l[0].Kind != kind || l[0].Text != s):
+			t.Errorf("%q %v %v %v", s, l, at, e)
+		}
+		// Behind a letter letters and digits go on.
+		if l, _, _ := All("x" + s); (kind == Word || kind == Number) != (len(l) == 1 && l[0].Text == "x"+s) {
+			t.Errorf("%q %v", s, l)
+		}
+	}
+}
+
 // TestWrong (P6.2, P2): what is no word, and where it begins.
 func TestWrong(t *testing.T) {
 	for s, want := range map[string]int{

@@ -127,6 +127,7 @@ func TestPut(t *testing.T) {
 	wait.Within = 5
 	for want, q := range map[string]Query{
 		"q = A a ; !B b WITHIN 5":                                            wait,
+		"q = A a WITHIN 1000000":                                             {Name: "q", Parts: []Part{part("a", "A")}, Within: 1000000},
 		"q = STRICT A a ; B | C b+ WITHIN 0":                                 strict,
 		"q = A | B a+[a.x < 9] ; !N n ; B b WITHIN 5 BY x EMIT u: a.x, w: 0": full(),
 		"q = A a ; !A | B n[a.x < n.x] WITHIN 0":                             of(part("a", "A"), not(with(part("n", "A", "B"), less(ref("a", "x"), ref("n", "x"))))),

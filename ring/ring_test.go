@@ -141,6 +141,19 @@ func TestNoReader(t *testing.T) {
 	}
 }
 
+// TestEnded (P5.3): of a ring that nothing was put into.
+func TestEnded(t *testing.T) {
+	r := made(t, 1)
+	n := r.Add()
+	if r.Ended(n) || r.Ended(n+1) || r.Ended(0) {
+		t.Error("open")
+	}
+	r.Close()
+	if !r.Ended(n) || r.Ended(n+1) || r.Ended(0) {
+		t.Error("closed")
+	}
+}
+
 // TestRead (P5.3): Peek reads nothing, Next one; Low is the edge behind what was read; Ended.
 func TestRead(t *testing.T) {
 	r := made(t, 3)

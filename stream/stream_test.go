@@ -34,6 +34,17 @@ func TestIsName(t *testing.T) {
 	}
 }
 
+// TestBytes (P3.1): which bytes may stand in a name.
+func TestBytes(t *testing.T) {
+	for b := range 256 {
+		s := string([]byte{byte(b)})
+		letter := strings.Contains("abcdefghijklmnopqrstuvwxyzABCDEFGHIJKLMNOPQRSTUVWXYZ_", s)
+		if IsName(s) != letter || IsName("x"+s) != (letter || strings.Contains("0123456789", s)) {
+			t.Errorf("%q", s)
+		}
+	}
+}
+
 // TestRight (P3.2): each error, and which comes first.
 func TestRight(t *testing.T) {
 	x := Field{"x", value.Int}

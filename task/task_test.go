@@ -299,10 +299,36 @@ func TestSent(t *testing.T) {
 	k, _ := task.New(streams(), parsed(t, "q = A a WITHIN 1"), 9, 9, in, out)
 	in[0].Put(at(3, 0))
 	in[0].Put(at(5, 0))
+	// What is known to those behind stays so: only the match is staged.
+	if !k.Step() || k.Staged() != 1 {
+		t.Error(k.Staged())
+	}
 	for k.Step() {
 	}
 	if out.Total() != 2 || out.Edge() != 6 || k.Held() != 2 {
 		t.Error(out.Total(), out.Edge(), k.Held())
+	}
+}
+
+// TestLastMark (P18.2, P18.3): a mark of MaxTime is told; what is behind it is not.
+func TestLastMark(t *testing.T) {
+	w := made(t, "A a WITHIN 1", 8, 8)
+	w.in[0].Put(at(api.MaxTime, 0))
+	w.in[0].Put(mark(api.MaxTime + 1))
+	if w.in[0].Total() != 1 || w.all() != 2 {
+		t.Error(w.in[0].Total())
+	}
+	last := strconv.Itoa(api.MaxTime)
+	if got := w.sent(); got != last || w.out.Edge() != api.MaxTime+1 || w.Ready() {
+		t.Error(got)
+	}
+	two := made(t, "A a ; B b WITHIN 1", 8, 8)
+	two.in[0].Put(at(api.MaxTime, 0))
+	two.in[1].Put(at(api.MaxTime-1, 0))
+	two.in[1].Put(mark(api.MaxTime))
+	two.all()
+	if got := two.sent(); got != "="+last {
+		t.Error(got)
 	}
 }
 

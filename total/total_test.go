@@ -150,6 +150,10 @@ func TestOfWrong(t *testing.T) {
 	if r, e := total.Of([]total.Source{a}, []query.Query{{}}); len(r) != 0 || e != api.ErrArg {
 		t.Error(r, e)
 	}
+	// What is not there is left out ahead of all other errors.
+	if r, e := total.Of([]total.Source{a}, []query.Query{{Name: "q", Parts: []query.Part{{Streams: []string{"Z"}}}}}); len(r) != 0 || e != api.ErrArg {
+		t.Error(r, e)
+	}
 	nine := query.Query{Name: "q", Parts: []query.Part{{Streams: []string{"A"}, Var: "a"}}, Within: math.MaxInt64}
 	if r, e := total.Of([]total.Source{a}, []query.Query{nine}); len(r) != 0 || e != api.ErrArg {
 		t.Error(r, e)

@@ -109,9 +109,14 @@ func TestPut(t *testing.T) {
 			t.Error("put alike", v, w)
 		}
 		met[s] = v
-		got, next, ok := Get("??"+s+"\x01", 2)
-		if got != v || next != 2+len(s) || !ok {
-			t.Error(v, got, next, ok)
+		for _, ahead := range []string{"", "\x01", "??"} {
+			got, next, ok := Get(ahead+s+"\x01", len(ahead))
+			if got != v || next != len(ahead)+len(s) || !ok {
+				t.Error(v, got, next, ok)
+			}
+		}
+		if got, next, ok := Get(s, 0); got != v || next != len(s) || !ok {
+			t.Error("at the end", v, got, next, ok)
 		}
 	}
 	for _, v := range wrongs() {
