@@ -10,6 +10,7 @@ import (
 	"marshalling/api"
 	"marshalling/denote"
 	"marshalling/event"
+	"marshalling/merge"
 	"marshalling/parse"
 	"marshalling/query"
 	"marshalling/stream"
@@ -75,19 +76,62 @@ func times(l []event.Event) string {
 	return strings.Join(texts, " ")
 }
 
-// TestEntries (P21.1): in one order, with the names; nothing where there is none.
+// TestEntries (P21.1): in one order, with the names; no entry of an input that has none.
 func TestEntries(t *testing.T) {
 	ins := [][]event.Event{{at(2), at(5)}, {at(1), at(2)}, {at(0), at(9)}}
-	for want, names := range map[string][]string{"c0 b1 a2 b2 a5 c9": {"a", "b", "c", "d"}, "0 b1 a2 b2 a5 9": {"a", "b"}, "0 1 2 2 5 9": nil, "0 1 a2 2 a5 9": {"a", ""}} {
-		if got := read(total.Entries(names, ins)); got != want {
-			t.Error(names, got)
+	for _, c := range []struct {
+		want  string
+		names []string
+	}{
+		{"c0 b1 a2 b2 a5 c9", []string{"a", "b", "c"}}, {"c0 b1 a2 b2 a5 c9", []string{"a", "b", "c", "d"}},
+		{"b1 a2 b2 a5", []string{"a", "b"}}, {"a2 a5", []string{"a"}}, {"", nil}, {"", []string{}},
+		{"a0 a1 a2 a2 a5 a9", []string{"a", "a", "a"}},
+		// The empty text is a name that stands at its place.
+		{"1 a2 2 a5", []string{"a", ""}},
+	} {
+		if got := read(total.Entries(c.names, ins)); got != c.want {
+			t.Error(c.names, got)
 		}
 	}
-	if len(total.Entries([]string{"a"}, nil)) != 0 || len(total.Entries(nil, make([][]event.Event, 3))) != 0 {
+	if len(total.Entries([]string{"a"}, nil)) != 0 || len(total.Entries(nil, make([][]event.Event, 3))) != 0 || len(total.Entries(nil, nil)) != 0 {
 		t.Error("nothing")
 	}
 	if got := read(total.Entries([]string{"a", "b"}, [][]event.Event{{at(5), at(1)}, {at(3), at(-4)}})); got != "b3 b-4 a5 a1" {
 		t.Error(got)
+	}
+}
+
+// TestEntriesAll (P21.1): just those of All, in its order, whose input has a name; what is handed in stays.
+func TestEntriesAll(t *testing.T) {
+	for seed := range 600 {
+		d := trial.New(seed)
+		names := []string{"a", "b", "c", "d"}[:d.Roll(5)]
+		var ins, before [][]event.Event
+		for range d.Roll(6) {
+			var l []event.Event
+			for range d.Roll(4) {
+				l = append(l, at(int64(d.Roll(6)), int64(d.Roll(9))))
+			}
+			ins, before = append(ins, l), append(before, slices.Clone(l))
+		}
+		got := total.Entries(names, ins)
+		for _, p := range merge.All(ins) {
+			if p.Input >= len(names) {
+				continue
+			}
+			if len(got) == 0 || got[0].Stream != names[p.Input] || !event.Same(got[0].E, p.E) {
+				t.Fatal(seed, got, p)
+			}
+			got = got[1:]
+		}
+		if len(got) != 0 {
+			t.Fatal(seed, got)
+		}
+		for i := range ins {
+			if !slices.EqualFunc(ins[i], before[i], event.Same) {
+				t.Fatal(seed, "turned")
+			}
+		}
 	}
 }
 
@@ -113,6 +157,61 @@ func TestOf(t *testing.T) {
 	}
 	if r, e := total.Of(l, nil); len(r) != 0 || e != api.OK {
 		t.Error(r, e)
+	}
+}
+
+// TestIn (P21.2): what a query reads is Entries of its Inputs, each at its place, of a source what fits, of a query what is sent.
+func TestIn(t *testing.T) {
+	several := 0
+	for seed := range 300 {
+		d := trial.New(seed)
+		streams := trial.Streams()
+		var sources []total.Source
+		fits := map[string][]event.Event{}
+		for _, s := range streams {
+			source := total.Source{S: s}
+			for i := range d.Roll(5) {
+				e := d.Event(s, int64(2*i+d.Roll(2)))
+				if d.Roll(4) == 0 {
+					e.V = e.V[1:]
+				} else {
+					fits[s.Name] = append(fits[s.Name], e)
+				}
+				source.L = append(source.L, e)
+			}
+			sources = append(sources, source)
+		}
+		qs := all(t, d.Queries(streams)...)
+		results, e := total.Of(sources, qs)
+		if e != api.OK {
+			t.Fatal(seed, e)
+		}
+		for i, q := range qs {
+			fits[q.Name] = results[i].Sent
+		}
+		for i, q := range qs {
+			var ins [][]event.Event
+			for _, name := range query.Inputs(q) {
+				ins = append(ins, fits[name])
+			}
+			if want := total.Entries(query.Inputs(q), ins); !slices.EqualFunc(results[i].In, want, func(a, b denote.Entry) bool { return a.Stream == b.Stream && event.Same(a.E, b.E) }) {
+				t.Fatal(seed, query.Put(q), read(results[i].In), read(want))
+			}
+			several += len(ins) / 2
+		}
+	}
+	if several < 100 {
+		t.Error("too few", several)
+	}
+}
+
+// TestNotThere (P21.2): an Input that is not there is refused, wherever it stands among those that are.
+func TestNotThere(t *testing.T) {
+	l := []total.Source{{named("A"), []event.Event{at(1, 1)}}, {named("B"), []event.Event{at(2, 2)}}}
+	for _, text := range []string{"q = Z | A a WITHIN 5", "q = A | Z a WITHIN 5", "q = A a ; Z z ; B b WITHIN 5", "q = A a ; !Z z ; B b WITHIN 5", "q = Z z ; A a ; B b WITHIN 5", "q = A a ; B b ; Z z WITHIN 5"} {
+		if r, e := total.Of(l, all(t, "p = A a WITHIN 1", text)); len(r) != 0 || e != api.ErrName {
+			t.Error(text, r, e)
+		}
 	}
 }
 
